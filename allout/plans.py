@@ -4,6 +4,7 @@ from allout.errors import BadPlan, NoSuchElement
 
 KINDS = ("room", "corridor", "stair", "outside")
 USES = ("assembly", "office", "shop", "storage", "home")
+ATTRIBUTES = ("width", "rating", "height")
 
 MOST_SPACES = 8
 MOST_DOORS = 12
@@ -106,6 +107,17 @@ def open_doors(plan, measures):
         if measure is None or measure in measures:
             found.append(number)
     return tuple(found)
+
+
+def doors_at(plan, measures, space):
+    """The numbers of the open doors at the space with this number, ascending."""
+    return tuple(door for door in open_doors(plan, measures) if space in sides_of(plan, door))
+
+
+def other_side(plan, door, space):
+    """The number of the space that the door with this number has beside this one."""
+    one, two = sides_of(plan, door)
+    return two if space == one else one
 
 
 def present(plan, measures):

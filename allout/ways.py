@@ -1,7 +1,7 @@
 """Ways out: distances, routes, choke points, two ways that share nothing, and detours."""
 
 from allout.errors import NothingToAvoid
-from allout.plans import check_element, is_outside, length_of, open_doors, sides_of
+from allout.plans import check_element, is_outside, length_of, open_doors, other_side, sides_of
 
 
 def distances(plan, measures):
@@ -23,7 +23,7 @@ def way_length(plan, measures, space, doors):
         if is_outside(plan, here) or door not in passable or here not in sides_of(plan, door):
             return None
         total += length_of(plan, here)
-        here = _other_side(plan, door, here)
+        here = other_side(plan, door, here)
     if not is_outside(plan, here):
         return None
     return total
@@ -149,8 +149,3 @@ def _steps(plan, measures, barred):
             if not is_outside(plan, here) and ("space", there) not in barred:
                 found.append((door, here, there))
     return found
-
-
-def _other_side(plan, door, space):
-    one, two = sides_of(plan, door)
-    return two if space == one else one
