@@ -113,10 +113,10 @@ def _end_of_token(text, at):
 
 
 def _is_number(token):
-    if token == "" or token[0] not in DIGITS:
-        return False
     # A longer run of digits is above every bound, and may be too long for an integer.
-    return len(token) <= len(str(GREATEST_NUMBER)) and str(int(token)) == token
+    if not 1 <= len(token) <= len(str(GREATEST_NUMBER)):
+        return False
+    return all(sign in DIGITS for sign in token) and str(int(token)) == token
 
 
 def _check_parentheses(tokens):

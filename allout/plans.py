@@ -5,6 +5,7 @@ from allout.errors import BadPlan, NoSuchElement
 KINDS = ("room", "corridor", "stair", "outside")
 USES = ("assembly", "office", "shop", "storage", "home")
 ATTRIBUTES = ("width", "rating", "height")
+KINDS_OF_PARTS = ("space", "door")
 
 MOST_SPACES = 8
 MOST_DOORS = 12
@@ -140,6 +141,30 @@ def values_of(plan):
     spaces = tuple(space[5] for space in plan.spaces)
     doors = tuple(door[3] for door in plan.doors)
     return (spaces, doors)
+
+
+def value_of(values, element, attribute):
+    """The value of an attribute of an element."""
+    kind, number = element
+    return values[KINDS_OF_PARTS.index(kind)][number][ATTRIBUTES.index(attribute)]
+
+
+def greatest_of(plan, element, attribute):
+    """The greatest value that an attribute of an element can have."""
+    kind, number = element
+    greatest = plan.spaces[number][6] if kind == "space" else plan.doors[number][4]
+    return greatest[ATTRIBUTES.index(attribute)]
+
+
+def with_value(values, element, attribute, value):
+    """The values, but for this one of an element."""
+    kind, number = element
+    parts = [list(part) for part in values]
+    part = parts[KINDS_OF_PARTS.index(kind)]
+    triple = list(part[number])
+    triple[ATTRIBUTES.index(attribute)] = value
+    part[number] = tuple(triple)
+    return tuple([tuple(row) for row in parts])
 
 
 def price_of(plan, before, after):

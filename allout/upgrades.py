@@ -2,7 +2,7 @@
 
 from allout.errors import TooManyReasons
 from allout.judging import code_for, demands_at, exceeded
-from allout.plans import ATTRIBUTES, present, price_of
+from allout.plans import greatest_of, present, price_of
 from allout.settling import flat_values, place_of, places_in, values_from, worth_of
 from allout.sites import Site
 
@@ -119,8 +119,7 @@ def _askers(demands, many_places):
 
 def _is_too_great(plan, reason):
     kind, number, attribute, _, value = reason
-    greatest = plan.spaces[number][6] if kind == "space" else plan.doors[number][4]
-    return value > greatest[ATTRIBUTES.index(attribute)]
+    return value > greatest_of(plan, (kind, number), attribute)
 
 
 def _limit_obstacle(site, codes):

@@ -62,7 +62,7 @@ def two_ways(plan, measures, space):
         return ("through", chokes[0])
     # Not every way leaves room for a second one, not even each shortest one, so all have
     # their turn; twelve doors are too few for many ways that pass no space twice.
-    for first in _simple_ways(plan, _steps(plan, measures, ()), space, (space,)):
+    for first in _simple_ways(plan, steps_around(plan, measures, ()), space, (space,)):
         second = _way_around(plan, measures, space, first[:-1])
         if second is not None:
             return ("ways", first, second)
@@ -100,12 +100,12 @@ def _has_way_around(plan, measures, space, barred):
 
 def _distances_around(plan, measures, barred):
     """The distance of each space if no way may pass a barred element."""
-    return _least_lengths(plan, _steps(plan, measures, barred))
+    return _least_lengths(plan, steps_around(plan, measures, barred))
 
 
 def _way_around(plan, measures, space, barred):
     """The route of the space if no way may pass a barred element, or None."""
-    steps = _steps(plan, measures, barred)
+    steps = steps_around(plan, measures, barred)
     lengths = _least_lengths(plan, steps)
     if lengths[space] is None:
         return None
@@ -137,7 +137,7 @@ def _least_lengths(plan, steps):
     return tuple(found)
 
 
-def _steps(plan, measures, barred):
+def steps_around(plan, measures, barred):
     """The steps (door, from, to) that a way can take without a barred element, by door."""
     found = []
     for door in open_doors(plan, measures):

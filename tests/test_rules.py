@@ -16,8 +16,17 @@ INTERFACE = {
     "codes": ("Code", "first_wrong_line", "read_line", "print_line", "condition_of"),
     "judging": ("holds", "related", "worth", "demanded", "allowed", "required", "violations", "is_compliant"),
     "upgrades": ("least_upgrade", "reasons", "check_reasons"),
+    "choices": ("cheapest", "cheapest_in_time"),
+    "minutes": ("rate", "walk", "course_fault", "outside_by", "out_by", "cut_worth", "earliest", "clear_by", "helpful"),
+    "projects": ("Project",),
+    "texts": ("plan_text", "plan_of"),
 }
-METHODS = {("codes", "Code"): ("__init__", "text")}
+METHODS = {
+    ("codes", "Code"): ("__init__", "text"),
+    ("projects", "Project"): (
+        "__init__", "measures", "present_values", "editions", "codes", "log", "adopt", "raise_to", "install",
+        "upgrade", "undo", "fork", "violations", "clear_by"),
+}
 
 BARRED_NAMES = ("register", "mro", "elements", "open", "input", "law", "version_info", "with_traceback", "add_note")
 BUILTINS = (
